@@ -1,0 +1,1 @@
+"""Chambercuts: master-keyed locks, with papers."""

@@ -1,0 +1,51 @@
+"""Values of every kind, for the tests of wrong inputs."""
+
+from chambercuts.tables import Table
+
+
+class Row(tuple):
+    """A tuple of a class of its own."""
+
+
+def deep_tuple(levels):
+    value = ()
+    for _ in range(levels):
+        value = (value,)
+    return value
+
+
+def deep_list(levels):
+    value = []
+    for _ in range(levels):
+        value = [value]
+    return value
+
+
+# None of these is an integer, and none is a tuple with a member that is a row or a cut.
+NEITHER = (
+    None, True, False, "", "0", "3", "plain", "x" * 4000, [], [1], [(0,)], [[0]],
+    (), (None,), (True,), ("0",), ("01", "01"), ([0],), ([0], [1]), ((True,), (False,)),
+    (None, None, None), ((None,), (None,)), ("",), Table(1, ((0,),)), (Table(1, ((0,),)),),
+    [0] * 30000, ((),) * 30000, deep_tuple(59), deep_list(59), "(0,)", [True, (False, "a")],
+)
+
+# Any values at all, for what keeps whatever it is given.
+EVERYTHING = NEITHER + (
+    0, 1, 2, 5, -1, 10 ** 12 - 1, -(10 ** 12 - 1), (0,), (0, 1), ((0,),), ((0,), (1,)), (1, (True, [0])),
+)
+
+
+def unchanged(value):
+    """Return a picture of a value, to see later that nothing in it changed."""
+    if isinstance(value, (list, tuple)):
+        return type(value).__name__, [unchanged(member) for member in value]
+    if isinstance(value, Table):
+        return "Table", unchanged(value.many), unchanged(value.rows)
+    return type(value).__name__, value
+
+
+def is_plain(value):
+    """Tell whether a value is plain tuples of plain integers throughout."""
+    if type(value) is tuple:
+        return all(is_plain(member) for member in value)
+    return type(value) is int
