@@ -1,12 +1,16 @@
 """Cuts of keys, the stacks that locks must have for them, and which cuts fit a table."""
 
 from chambercuts.checks import is_within
+from chambercuts.depths import is_chambers, is_depths
 from chambercuts.errors import InvalidCuts, InvalidNumber
 from chambercuts.tables import outs
 
-LEAST_DEPTHS = 2
-MOST_DEPTHS = 4
-MOST_CHAMBERS = 5
+
+def is_cut(value, k, depths):
+    """Tell whether a value is a cut of k chambers, of depths below this number."""
+    if not isinstance(value, tuple) or len(value) != k:
+        return False
+    return all([is_within(depth, 0, depths - 1) for depth in value])
 
 
 def are_cuts(table, depths, value):
@@ -14,9 +18,9 @@ def are_cuts(table, depths, value):
     if not isinstance(value, tuple) or len(value) != table.many:
         return False
     first = value[0]
-    if not isinstance(first, tuple) or not 1 <= len(first) <= MOST_CHAMBERS:
+    if not isinstance(first, tuple) or not is_chambers(len(first)):
         return False
-    return all([_is_cut(cut, len(first), depths) for cut in value])
+    return all([is_cut(cut, len(first), depths) for cut in value])
 
 
 def least_stacks(cuts, keys):
@@ -31,19 +35,12 @@ def falls(cut, stacks):
 
 def fits(table, depths, cuts):
     """Tell whether no key falls into the least stacks of a row that it is not in."""
-    if not is_within(depths, LEAST_DEPTHS, MOST_DEPTHS):
+    if not is_depths(depths):
         raise InvalidNumber(depths)
     if not are_cuts(table, depths, cuts):
         raise InvalidCuts(cuts)
     stacks = [least_stacks(cuts, row) for row in table.rows]
     return not any([falls(cuts[key], stacks[lock]) for key, lock in outs(table)])
-
-
-def _is_cut(value, k, depths):
-    """Tell whether a value is a cut of k chambers, of depths below this number."""
-    if not isinstance(value, tuple) or len(value) != k:
-        return False
-    return all([is_within(depth, 0, depths - 1) for depth in value])
 
 
 def _least_stack(cuts, keys, chamber):

@@ -1,5 +1,6 @@
 """Values of every kind, for the tests of wrong inputs."""
 
+from chambercuts.systems import System
 from chambercuts.tables import Table
 
 
@@ -27,6 +28,7 @@ NEITHER = (
     (), (None,), (True,), ("0",), ("01", "01"), ([0],), ([0], [1]), ((True,), (False,)),
     (None, None, None), ((None,), (None,)), ("",), Table(1, ((0,),)), (Table(1, ((0,),)),),
     [0] * 30000, ((),) * 30000, deep_tuple(59), deep_list(59), "(0,)", [True, (False, "a")],
+    System(Table(1, ((0,),)), 2, ((0,),)), (System(Table(1, ((0,),)), 2, ((0,),)),),
 )
 
 # Any values at all, for what keeps whatever it is given.
@@ -41,6 +43,8 @@ def unchanged(value):
         return type(value).__name__, [unchanged(member) for member in value]
     if isinstance(value, Table):
         return "Table", unchanged(value.many), unchanged(value.rows)
+    if isinstance(value, System):
+        return "System", unchanged(value.table), unchanged(value.depths), unchanged(value.cuts)
     return type(value).__name__, value
 
 

@@ -10,8 +10,21 @@ INTERFACE = {
         "are_cuts": ["table", "depths", "value"], "least_stacks": ["cuts", "keys"],
         "falls": ["cut", "stacks"], "fits": ["table", "depths", "cuts"],
     },
+    "chambercuts.partings": {
+        "kept_out": ["table", "parting", "kind"], "cuts_for": ["table", "depths", "k", "kind"],
+        "fewest": ["table", "depths", "kind"],
+    },
+    "chambercuts.walls": {
+        "walls": ["table", "depths", "k", "kind"], "walls_hold": ["table", "depths", "k", "kind", "value"],
+    },
+    "chambercuts.systems": {
+        "System": ["table", "depths", "cuts"], "opened": ["system", "cut"], "ghosts": ["system"],
+    },
 }
-METHODS = {"chambercuts.tables": {"Table": ["__init__", "__eq__"]}}
+METHODS = {
+    "chambercuts.tables": {"Table": ["__init__", "__eq__"]},
+    "chambercuts.systems": {"System": ["__init__", "__eq__"]},
+}
 
 
 class TheInterface(unittest.TestCase):

@@ -78,6 +78,10 @@ class TheLanguage(unittest.TestCase):
         for path, node in nodes(ast.Constant):
             self.assertNotIsInstance(node.value, (float, complex), path)
 
+    def test_words_that_stand_nowhere(self):
+        for path in files():
+            self.assertNotRegex(path.read_text(encoding="ascii"), r"\b_[wW]all", path)
+
     def test_builtins(self):
         every = set(dir(builtins))
         for path, node in nodes(ast.Name):

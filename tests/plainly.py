@@ -1,0 +1,106 @@
+"""What the points say, done in the plainest way, to compare the program with."""
+
+from functools import lru_cache
+from itertools import combinations, product
+
+from chambercuts.tables import Table
+
+
+def all_rows(many):
+    """Return all rows that a table of so many keys may have."""
+    return [row for size in range(1, many + 1) for row in combinations(range(many), size)]
+
+
+def all_outs(table):
+    return [
+        (key, lock) for key in range(table.many) for lock in range(len(table.rows)) if key not in table.rows[lock]
+    ]
+
+
+def all_partings(table, depths):
+    return list(product(range(depths), repeat=table.many))
+
+
+def is_kept_out(table, parting, kind, pair):
+    key, lock = pair
+    if kind == "plain":
+        return all(parting[other] != parting[key] for other in table.rows[lock])
+    return all(parting[other] < parting[key] for other in table.rows[lock])
+
+
+def kept_sets(table, depths, kind):
+    """Return the unlike sets of pairs that the partings keep out."""
+    return kept_sets_by_rows(table.many, table.rows, depths, kind)
+
+
+@lru_cache(maxsize=None)
+def kept_sets_by_rows(many, rows, depths, kind):
+    table = Table(many, rows)
+    return {
+        frozenset(pair for pair in all_outs(table) if is_kept_out(table, parting, kind, pair))
+        for parting in all_partings(table, depths)
+    }
+
+
+def are_good_cuts(table, depths, k, kind, cuts):
+    """Tell whether these are plain tuples, cuts of k chambers that keep out all outs."""
+    if type(cuts) is not tuple or len(cuts) != table.many:
+        return False
+    for cut in cuts:
+        if type(cut) is not tuple or len(cut) != k:
+            return False
+        if not all(type(depth) is int and 0 <= depth < depths for depth in cut):
+            return False
+    partings = [[cut[at] for cut in cuts] for at in range(k)]
+    return all(any(is_kept_out(table, parting, kind, pair) for parting in partings) for pair in all_outs(table))
+
+
+def least_chambers(table, depths, kind):
+    """Return the least k for which some k partings keep out all outs, found by all that can be kept out."""
+    kept = kept_sets(table, depths, kind)
+    everything = frozenset(all_outs(table))
+    reached = set(kept)
+    k = 1
+    while everything not in reached:
+        reached = {one | other for one in reached for other in kept}
+        k += 1
+    return k
+
+
+def is_ascending(value):
+    return all(one < other for one, other in zip(value, value[1:]))
+
+
+def are_lots(table, value):
+    """Tell whether a value is an ascending tuple of lots, perhaps ()."""
+    pairs = all_outs(table)
+    if not isinstance(value, tuple):
+        return False
+    for lot in value:
+        if not isinstance(lot, tuple) or len(lot) == 0:
+            return False
+        for pair in lot:
+            if not isinstance(pair, tuple) or len(pair) != 2 or any(type(number) is not int for number in pair):
+                return False
+            if pair not in pairs:
+                return False
+        if not is_ascending(lot):
+            return False
+    return is_ascending(value)
+
+
+def are_walls(table, depths, k, kind, value):
+    """Tell whether a value is walls, for depths, k and kind that are let."""
+    if not isinstance(value, tuple) or len(value) != k + 1:
+        return False
+    if not all(are_lots(table, lots) for lots in value) or len(value[0]) == 0:
+        return False
+    kept = kept_sets(table, depths, kind)
+    for t in range(k):
+        below = [set(lot) for lot in value[t + 1]]
+        for lot in value[t]:
+            for out in kept:
+                rest = set(lot) - out
+                if not any(other <= rest for other in below):
+                    return False
+    return True
