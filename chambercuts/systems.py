@@ -51,7 +51,12 @@ def chambers(system):
 
 def lock_stacks(system):
     """Return for each lock of a system its stacks."""
-    return [least_stacks(system.cuts, row) for row in system.table.rows]
+    return [stacks_of(system, lock) for lock in range(len(system.table.rows))]
+
+
+def stacks_of(system, lock):
+    """Return the stacks of one lock of a system."""
+    return least_stacks(system.cuts, system.table.rows[lock])
 
 
 def _locks_for(cut, stacks):

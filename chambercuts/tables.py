@@ -33,6 +33,31 @@ def outs(table):
     return tuple(pairs)
 
 
+def is_key(table, value):
+    """Tell whether a value is a key of the table."""
+    return is_within(value, 0, table.many - 1)
+
+
+def is_lock(table, value):
+    """Tell whether a value is a lock of the table."""
+    return is_within(value, 0, len(table.rows) - 1)
+
+
+def is_bunch(table, value):
+    """Tell whether a value is a bunch of the table's keys."""
+    return is_ascending(value, table.many) and len(value) > 0
+
+
+def are_locks(table, value):
+    """Tell whether a value is an ascending tuple of locks of the table, perhaps ()."""
+    return is_ascending(value, len(table.rows))
+
+
+def is_out(table, key, lock):
+    """Tell whether two values are a key and a lock that are a pair of the table's outs."""
+    return is_key(table, key) and is_lock(table, lock) and key not in table.rows[lock]
+
+
 def _are_rows(value, many):
     """Tell whether a value is the rows of a table of so many keys."""
     if not isinstance(value, tuple) or not 1 <= len(value) <= MOST_LOCKS:

@@ -104,3 +104,80 @@ def are_walls(table, depths, k, kind, value):
                 if not any(other <= rest for other in below):
                     return False
     return True
+
+
+def all_cuts(k, depths):
+    return list(product(range(depths), repeat=k))
+
+
+def opens(system, cut, lock):
+    """Tell whether some key of the lock's row has the cut's depth, in each chamber."""
+    row = system.table.rows[lock]
+    return all(any(system.cuts[key][at] == cut[at] for key in row) for at in range(len(cut)))
+
+
+def plainly_opened(system, cut):
+    return tuple(lock for lock in range(len(system.table.rows)) if opens(system, cut, lock))
+
+
+def cuts_of(system):
+    """Return all cuts of the chambers and depths of a system, ascending."""
+    return all_cuts(len(system.cuts[0]), system.depths)
+
+
+def bunches(system):
+    return sorted(all_rows(system.table.many))
+
+
+def is_filed(system, key, cut):
+    return all(deeper >= depth for deeper, depth in zip(cut, system.cuts[key]))
+
+
+def first_filed(system, key, lock):
+    """Return the first cut filed from the key's that opens the lock, or None."""
+    for cut in cuts_of(system):
+        if is_filed(system, key, cut) and opens(system, cut, lock):
+            return cut
+    return None
+
+
+def is_made(system, keys, cut):
+    return all(any(system.cuts[key][at] == cut[at] for key in keys) for at in range(len(cut)))
+
+
+def first_made(system, keys, lock):
+    """Return the first cut that can be made of the keys and opens the lock, or None."""
+    for cut in cuts_of(system):
+        if is_made(system, keys, cut) and opens(system, cut, lock):
+            return cut
+    return None
+
+
+def all_makers(system, lock):
+    """Return the ascending list of the least bunches of keys that do not open a lock, of which a cut that does can."""
+    able = [
+        set(keys) for keys in bunches(system)
+        if not set(keys) & set(system.table.rows[lock]) and first_made(system, keys, lock) is not None
+    ]
+    return sorted(tuple(sorted(keys)) for keys in able if not any(other < keys for other in able))
+
+
+def do_fit(rows, cuts):
+    """Tell whether cuts fit rows, of however many keys and locks."""
+    for row in rows:
+        for key in range(len(cuts)):
+            if key not in row and all(any(cuts[key][at] == cuts[o][at] for o in row) for at in range(len(cuts[0]))):
+                return False
+    return True
+
+
+def all_key_cuts(system, locks):
+    key = system.table.many
+    rows = [row + (key,) if lock in locks else row for lock, row in enumerate(system.table.rows)]
+    return [cut for cut in cuts_of(system) if do_fit(rows, system.cuts + (cut,))]
+
+
+def all_locks(system):
+    """Return all ascending tuples of locks of a system."""
+    many = len(system.table.rows)
+    return [locks for size in range(many + 1) for locks in combinations(range(many), size)]

@@ -53,3 +53,17 @@ def is_plain(value):
     if type(value) is tuple:
         return all(is_plain(member) for member in value)
     return type(value) is int
+
+
+# None of these is a bunch of keys 0 to 2, but each of the last ones is nearly one.
+NO_BUNCHES = NEITHER + (
+    0, 1, -1, 10 ** 12 - 1, [0], [0, 1], (1, 0), (0, 0), (0, 1, 1), (0, 2, 1), (2, 1, 0), (-1,), (-1, 0), (3,),
+    (0, 3), (0, 1, 2, 3), (False,), (0, True), (False, 1), ("0",), (None, 1), ((0,), 1), ((0, 1),), (0, [1]),
+    (0, 10 ** 12 - 1), tuple(range(30000)), (0,) * 30000, "01", ("0", "1"), (0, None), (0, Table(1, ((0,),))),
+)
+
+# None of these is an ascending tuple of locks 0 to 2.
+NO_LOCKS = tuple(value for value in NO_BUNCHES if not isinstance(value, tuple) or len(value) > 0)
+
+# None of these is a number below 3.
+NO_NUMBERS = NEITHER + (3, 4, 5, -1, -2, 10 ** 12 - 1, -(10 ** 12 - 1), (0,), (1,), [0], ((0,),), (0, 1), "1")

@@ -20,6 +20,12 @@ INTERFACE = {
     "chambercuts.systems": {
         "System": ["table", "depths", "cuts"], "opened": ["system", "cut"], "ghosts": ["system"],
     },
+    "chambercuts.filing": {"filed": ["system", "key", "lock"], "threats": ["system"]},
+    "chambercuts.making": {"made_of": ["system", "keys", "lock"], "makers": ["system", "lock"]},
+    "chambercuts.later": {
+        "lock_fits": ["system", "keys"], "with_lock": ["system", "keys"],
+        "key_cuts": ["system", "locks"], "with_key": ["system", "locks", "cut"],
+    },
 }
 METHODS = {
     "chambercuts.tables": {"Table": ["__init__", "__eq__"]},

@@ -5,57 +5,11 @@ from itertools import product
 
 from chambercuts.cuts import are_cuts, falls, fits, least_stacks
 from chambercuts.errors import InvalidCut, InvalidCuts, InvalidNumber, InvalidTable
-from chambercuts.partings import cuts_for
 from chambercuts.systems import System, ghosts, opened
 from chambercuts.tables import Table, outs
-from tests.plainly import all_rows
+from tests.plainly import all_cuts, all_rows, plainly_opened
+from tests.sample_systems import APART, APART_CUTS, FULL, ONE, TWO, TWO_CUTS, small_systems, some_systems
 from tests.samples import EVERYTHING, NEITHER, Row, is_plain, unchanged
-
-ONE = Table(1, ((0,),))
-TWO = Table(3, ((0, 1), (0, 2)))
-TWO_CUTS = ((0, 0), (0, 1), (1, 0))
-APART = Table(5, ((0,), (1,), (2,), (3,), (4,)))
-APART_CUTS = ((0, 0, 0), (0, 1, 1), (1, 0, 1), (1, 1, 0), (1, 1, 1))
-FULL = Table(5, ((0, 1, 2, 3, 4),) * 5)
-
-
-def all_cuts(k, depths):
-    return list(product(range(depths), repeat=k))
-
-
-def some_systems():
-    """Return systems of 1 to 5 keys, 1 to 5 locks and chambers, and of 2 to 4 depths."""
-    found = []
-    for many in range(1, 6):
-        rows = all_rows(many)
-        for locks in range(1, 6):
-            for start in range(0, len(rows), 3):
-                table = Table(many, tuple(rows[(start + 5 * at) % len(rows)] for at in range(locks)))
-                k = 5 if start % 2 else many
-                depths = 2 + (start + locks) % 3
-                if depths ** k <= 256:
-                    found.append(System(table, depths, cuts_for(table, depths, k, "plain" if start % 4 else "deep")))
-    return found + [System(TWO, 2, TWO_CUTS), System(APART, 2, APART_CUTS), System(ONE, 4, ((3, 0, 1, 2, 3),))]
-
-
-def small_systems():
-    """Return all systems of some small tables with two chambers of two depths and one of three."""
-    found = []
-    for rows in product(all_rows(3), repeat=2):
-        table = Table(3, rows)
-        for k, depths in ((2, 2), (1, 3)):
-            for cuts in product(all_cuts(k, depths), repeat=3):
-                if fits(table, depths, cuts):
-                    found.append(System(table, depths, cuts))
-    return found
-
-
-def plainly_opened(system, cut):
-    """Return the locks some key of whose row has the cut's depth, in each chamber."""
-    return tuple(
-        lock for lock, row in enumerate(system.table.rows)
-        if all(any(system.cuts[key][at] == cut[at] for key in row) for at in range(len(cut)))
-    )
 
 
 class SystemsThatAreLet(unittest.TestCase):
