@@ -23,3 +23,20 @@ def is_ascending(value, bound):
             return False
         last = member
     return True
+
+
+def has_word(value):
+    """Tell whether a value is a tuple that begins with a string."""
+    return isinstance(value, tuple) and len(value) > 0 and isinstance(value[0], str)
+
+
+def is_same(one, value):
+    """Tell whether a value is the same as this one, which is integers and strings, in tuples perhaps."""
+    if isinstance(one, tuple):
+        if not isinstance(value, tuple) or len(value) != len(one):
+            return False
+        return all([is_same(member, other) for member, other in zip(one, value)])
+    if isinstance(one, str):
+        return isinstance(value, str) and value == one
+    # To Python a bool may be equal to a number.
+    return is_integer(value) and value == one

@@ -57,8 +57,13 @@ def are_good_cuts(table, depths, k, kind, cuts):
 
 def least_chambers(table, depths, kind):
     """Return the least k for which some k partings keep out all outs, found by all that can be kept out."""
-    kept = kept_sets(table, depths, kind)
-    everything = frozenset(all_outs(table))
+    return least_chambers_by_rows(table.many, table.rows, depths, kind)
+
+
+@lru_cache(maxsize=None)
+def least_chambers_by_rows(many, rows, depths, kind):
+    kept = kept_sets_by_rows(many, rows, depths, kind)
+    everything = frozenset(all_outs(Table(many, rows)))
     reached = set(kept)
     k = 1
     while everything not in reached:

@@ -67,3 +67,39 @@ NO_LOCKS = tuple(value for value in NO_BUNCHES if not isinstance(value, tuple) o
 
 # None of these is a number below 3.
 NO_NUMBERS = NEITHER + (3, 4, 5, -1, -2, 10 ** 12 - 1, -(10 ** 12 - 1), (0,), (1,), [0], ((0,),), (0, 1), "1")
+
+
+def changes(value):
+    """Yield values that are like this one, but changed at one place."""
+    yield from (None, [value], (value,))
+    if isinstance(value, str):
+        yield from (value + " ", value.upper(), value[:-1], "opens", "lets", "fits", (value,))
+    elif isinstance(value, int):
+        yield from (value + 1, value - 1, str(value), 10 ** 12 - 1)
+        if value in (0, 1):
+            yield bool(value)
+    elif isinstance(value, tuple):
+        yield list(value)
+        yield value + value
+        yield value[:-1]
+        yield value[1:]
+        yield value[::-1]
+        yield value + (0,)
+        yield value + value[-1:]
+        for at, member in enumerate(value):
+            for other in changes(member):
+                yield value[:at] + (other,) + value[at + 1:]
+
+
+def in_rows(value):
+    """Return a value with tuples of a class of their own in the place of all tuples."""
+    if isinstance(value, tuple):
+        return Row(in_rows(member) for member in value)
+    return value
+
+
+def is_plain_with_words(value):
+    """Tell whether a value is plain tuples of plain integers and strings throughout."""
+    if type(value) is tuple:
+        return all(is_plain_with_words(member) for member in value)
+    return type(value) in (int, str)

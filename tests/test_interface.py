@@ -26,10 +26,27 @@ INTERFACE = {
         "lock_fits": ["system", "keys"], "with_lock": ["system", "keys"],
         "key_cuts": ["system", "locks"], "with_key": ["system", "locks", "cut"],
     },
+    "chambercuts.masters": {
+        "are_master_cuts": ["k", "d", "value"], "greatest": ["k", "d"], "layer": ["k", "d", "many"],
+        "share": ["k", "d", "value"], "master_table": ["n"],
+    },
+    "chambercuts.claims": {
+        "is_question": ["thing", "value"], "is_claim": ["thing", "value"], "answer_of": ["thing", "question"],
+        "question_of": ["thing", "claim"],
+    },
+    "chambercuts.papers": {"paper_of": ["thing", "question"], "claim_holds": ["thing", "claim", "paper"]},
+    "chambercuts.desk": {"Desk": ["system"], "same_state": ["one", "other"]},
 }
 METHODS = {
-    "chambercuts.tables": {"Table": ["__init__", "__eq__"]},
-    "chambercuts.systems": {"System": ["__init__", "__eq__"]},
+    "chambercuts.tables": {"Table": {"__init__": ["many", "rows"], "__eq__": ["other"]}},
+    "chambercuts.systems": {"System": {"__init__": ["table", "depths", "cuts"], "__eq__": ["other"]}},
+    "chambercuts.desk": {
+        "Desk": {
+            "__init__": ["system"], "issue": ["locks", "cut"], "mount": ["keys"], "revoke": ["key"], "unmount": ["lock"],
+            "recut": ["key", "cut"], "watch": ["question"], "leave": ["question"], "undo": [], "redo": [],
+            "claim": ["question"], "paper": ["question"], "report": [],
+        },
+    },
 }
 
 
@@ -49,8 +66,10 @@ class TheInterface(unittest.TestCase):
     def test_methods_are_defined_in_the_class_itself(self):
         for module, classes in METHODS.items():
             for name, methods in classes.items():
-                for method in methods:
-                    self.assertIn(method, vars(getattr(importlib.import_module(module), name)))
+                for method, parameters in methods.items():
+                    own = vars(getattr(importlib.import_module(module), name))
+                    self.assertIn(method, own)
+                    self.assertEqual(list(inspect.signature(own[method]).parameters)[1:], parameters)
 
 
 if __name__ == "__main__":
