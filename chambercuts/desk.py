@@ -150,7 +150,8 @@ def _looked_at(system, question, before):
 def _without_key(system, key):
     """Return the system without a key."""
     table = system.table
-    if table.many == 1 or (key,) in table.rows:
+    # The only key of all is the only one in each row.
+    if (key,) in table.rows:
         raise Undefined("alone")
     rows = [[other - 1 if other > key else other for other in row if other != key] for row in table.rows]
     left = Table(table.many - 1, tuple([tuple(row) for row in rows]))

@@ -1,5 +1,7 @@
 """Values of every kind, for the tests of wrong inputs."""
 
+from chambercuts.desk import Desk
+from chambercuts.errors import InvalidNumber, Undefined
 from chambercuts.systems import System
 from chambercuts.tables import Table
 
@@ -29,6 +31,7 @@ NEITHER = (
     (None, None, None), ((None,), (None,)), ("",), Table(1, ((0,),)), (Table(1, ((0,),)),),
     [0] * 30000, ((),) * 30000, deep_tuple(59), deep_list(59), "(0,)", [True, (False, "a")],
     System(Table(1, ((0,),)), 2, ((0,),)), (System(Table(1, ((0,),)), 2, ((0,),)),),
+    Desk(System(Table(1, ((0,),)), 2, ((0,),))), InvalidNumber(1), (Undefined("cuts"),),
 )
 
 # Any values at all, for what keeps whatever it is given.

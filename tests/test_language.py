@@ -22,7 +22,10 @@ LIBRARY = {
     },
     "collections": {"defaultdict", "deque"},
 }
-BARRED = (ast.AsyncFunctionDef, ast.AsyncFor, ast.AsyncWith, ast.Await, ast.Import, ast.Div)
+BARRED = (
+    ast.AsyncFunctionDef, ast.AsyncFor, ast.AsyncWith, ast.Await, ast.Import, ast.Div, ast.GeneratorExp, ast.Lambda,
+    ast.Global, ast.Nonlocal, ast.AnnAssign,
+)
 
 
 def files():
@@ -77,6 +80,26 @@ class TheLanguage(unittest.TestCase):
                     self.assertEqual(node.decorator_list, [], (path, node.name))
         for path, node in nodes(ast.Constant):
             self.assertNotIsInstance(node.value, (float, complex), path)
+
+    def test_names_that_are_imported(self):
+        for path, tree in trees():
+            parts = list(ast.walk(tree))
+            names = {alias.name for node in parts if isinstance(node, ast.ImportFrom) for alias in node.names}
+            read = {node.id for node in parts if isinstance(node, ast.Name) and isinstance(node.ctx, ast.Load)}
+            self.assertLessEqual(names, read, path)
+            names |= {node.name for node in parts if isinstance(node, ast.ClassDef)}
+            given = {node.id for node in parts if isinstance(node, ast.Name) and isinstance(node.ctx, ast.Store)}
+            given |= {node.arg for node in parts if isinstance(node, ast.arg)}
+            self.assertEqual(names & given, set(), path)
+
+    def test_no_two_files_import_from_each_other(self):
+        needs = {"chambercuts." + path.stem: set() for path in files()}
+        for path, node in nodes(ast.ImportFrom):
+            needs["chambercuts." + path.stem].add(node.module)
+        while needs:
+            free = [name for name, others in needs.items() if not others & set(needs)]
+            self.assertNotEqual(free, [], needs)
+            needs = {name: others for name, others in needs.items() if name not in free}
 
     def test_words_that_stand_nowhere(self):
         for path in files():

@@ -228,6 +228,18 @@ class PapersForRoom(unittest.TestCase):
                         told = is_reason(system, locks, cut, reason, able)
                         self.assertIs(claim_holds(system, claim, other), told, (cut, reason))
 
+    def test_no_claim_of_more_or_fewer_cuts_will_do(self):
+        # Whatever one reason is made, so that as many cuts are told to fit as the claim has it.
+        for system in [SYSTEM, System(APART, 2, APART_CUTS)] + odd_systems()[::30]:
+            for locks in all_locks(system)[::3]:
+                paper = paper_of(system, ("room", locks))
+                able = len(key_cuts(system, locks))
+                for at, (cut, reason) in list(enumerate(paper))[::1 + len(paper) // 12]:
+                    many = able + 1 if reason != ("fits",) else max(able - 1, 0)
+                    for other in (("fits",), ("opens", 0), ("lets", 0, 0), ("lets", 1, 0)):
+                        told = paper[:at] + ((cut, other),) + paper[at + 1:]
+                        self.assertIs(claim_holds(system, ("room", locks, many), told), False)
+
     def test_all_cuts_and_no_more(self):
         for system in (SYSTEM, System(APART, 2, APART_CUTS), System(ONE, 3, ((1, 2),))):
             for locks in all_locks(system)[::4]:
